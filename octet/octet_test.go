@@ -186,25 +186,6 @@ func TestReaderWidths(t *testing.T) {
 	}
 }
 
-// Memory: what a Reader returns shares nothing with its argument or with later results.
-func TestReaderMemory(t *testing.T) {
-	b := []byte{1, 2, 3, 4, 5, 6}
-	r := octet.Read(b)
-	x := r.Bytes(2)
-	x[0] = 99
-	_ = append(x, 99, 99)
-	if b[0] != 1 || b[2] != 3 {
-		t.Errorf("Bytes shares its argument: %v", b)
-	}
-	if y := r.Bytes(2); !bytes.Equal(y, []byte{3, 4}) {
-		t.Errorf("appending to a result reached the Reader: %v", y)
-	}
-	r.Rest()[0] = 99
-	if b[4] != 5 {
-		t.Error("Rest shares its argument")
-	}
-}
-
 // P1.3: Left counts what remains; a nil Reader is bad and has nothing.
 func TestLeftBad(t *testing.T) {
 	r := octet.Read([]byte{1, 2, 3})

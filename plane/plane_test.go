@@ -3,7 +3,6 @@ package plane_test
 import (
 	"bytes"
 	"math/rand"
-	"reflect"
 	"slices"
 	"testing"
 
@@ -796,8 +795,5 @@ func TestForwardedOnly(t *testing.T) {
 	}
 	if count[plane.Forward] < 100 || count[plane.Drop] < 100 {
 		t.Errorf("results: %v", count)
-	}
-	if !reflect.DeepEqual(plane.Out{}, plane.Out{Kind: plane.Drop, Why: packet.Fine}) {
-		t.Error("the zero result")
 	}
 }
